@@ -1,0 +1,1 @@
+"""Sharerules: who may do what, with reasons."""
