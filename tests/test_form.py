@@ -1,6 +1,7 @@
 """The form of the package: its files, its interface, its sizes and its imports."""
 
 import ast
+import builtins
 import importlib
 import os
 import unittest
@@ -20,6 +21,21 @@ INTERFACE = {
         "read_subject", "read_row", "shape", "target",
     ],
     "rules": ["is_rule", "rule_text", "parts"],
+    "books": ["are_rules", "find_ring", "Book"],
+    "store": ["Store"],
+    "grants": ["may", "height", "granted"],
+    "texts": ["book_text", "store_text", "read_book", "read_store"],
+}
+# The methods and properties that stand in the body of each class.
+METHODS = {
+    ("books", "Book"): [
+        "__init__", "rules", "kinds", "relations", "allowed", "rule", "places", "__contains__", "hangs", "level",
+        "has_row", "__eq__",
+    ],
+    ("store", "Store"): [
+        "__init__", "book", "version", "rows", "__contains__", "__len__", "rows_of", "write", "rows_at", "at", "go_back",
+        "same",
+    ],
 }
 
 
@@ -46,6 +62,15 @@ class TestForm(unittest.TestCase):
                 self.assertIn(name, defined)
                 self.assertTrue(callable(getattr(importlib.import_module("sharerules." + module), name)))
 
+    def test_each_method_of_the_interface_is_defined_in_its_class(self):
+        for (module, name), methods in METHODS.items():
+            made = next(node for node in ast.parse(source(module + ".py")).body if getattr(node, "name", "") == name)
+            self.assertIsInstance(made, ast.ClassDef)
+            defined = [node.name for node in made.body if isinstance(node, ast.FunctionDef)]
+            self.assertEqual(sorted(set(defined)), sorted(defined))
+            for method in methods:
+                self.assertIn(method, defined)
+
     def test_signs_and_sizes(self):
         for name in files():
             text = source(name)
@@ -71,6 +96,46 @@ class TestForm(unittest.TestCase):
                 if isinstance(node, ast.ImportFrom):
                     self.assertEqual(node.level, 0)
                     self.assertTrue(node.module.startswith("sharerules."), node.module)
+
+    def test_what_the_language_leaves_out(self):
+        barred = (ast.GeneratorExp, ast.Global, ast.Nonlocal, ast.Div, ast.Mod, ast.AsyncFunctionDef)
+        for name in files():
+            for node in ast.walk(ast.parse(source(name))):
+                self.assertNotIsInstance(node, barred, (name, getattr(node, "lineno", 0)))
+                if isinstance(node, ast.Attribute):
+                    self.assertNotIn(node.attr, ("sort", "format", "encode", "decode"), (name, node.lineno))
+                if isinstance(node, ast.FunctionDef):
+                    self.assertIn([ast.unparse(one) for one in node.decorator_list], ([], ["property"]), node.name)
+                if isinstance(node, ast.Compare) and isinstance(node.ops[0], (ast.Is, ast.IsNot)):
+                    self.assertIn(ast.unparse(node.comparators[0]), ("None", "True", "False"), (name, node.lineno))
+
+    def test_no_two_files_import_from_each_other(self):
+        found = {}
+        for name in files():
+            tree = ast.parse(source(name))
+            found["sharerules." + name[:-3]] = [node.module for node in tree.body if isinstance(node, ast.ImportFrom)]
+
+        def leads(first, seen):
+            for module in found[first]:
+                if module not in seen:
+                    seen.add(module)
+                    leads(module, seen)
+            return seen
+
+        for module in found:
+            self.assertNotIn(module, leads(module, set()))
+
+    def test_no_name_of_an_import_is_used_for_anything_else(self):
+        for name in files():
+            tree = ast.parse(source(name))
+            imported = {one.name for node in tree.body if isinstance(node, ast.ImportFrom) for one in node.names}
+            bound = {node.id for node in ast.walk(tree) if isinstance(node, ast.Name) and isinstance(node.ctx, ast.Store)}
+            bound |= {node.arg for node in ast.walk(tree) if isinstance(node, ast.arg)}
+            bound |= {node.name for node in tree.body if isinstance(node, (ast.FunctionDef, ast.ClassDef))}
+            self.assertFalse(imported & bound, name)
+            self.assertFalse(bound & set(dir(builtins)), name)
+            used = {node.id for node in ast.walk(tree) if isinstance(node, ast.Name)}
+            self.assertEqual(imported - used, set(), name)
 
 
 if __name__ == "__main__":

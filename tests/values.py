@@ -43,3 +43,49 @@ def odd_values():
 
 def argument_names(function):
     return list(inspect.signature(function).parameters)
+
+
+def changed_values(dice, value, many):
+    """Values that differ from one in a part: left out, exchanged, turned round, put in, or of another sort."""
+    for _ in range(many):
+        yield changed(dice, value)
+
+
+def changed(dice, value):
+    if isinstance(value, dict) and value and dice.random() < 0.9:
+        return changed_dict(dice, value)
+    if isinstance(value, (tuple, list)) and value and dice.random() < 0.85:
+        return changed_sequence(dice, value)
+    if isinstance(value, str) and dice.random() < 0.8:
+        return dice.choice(["", "a", "b", "k", "l", "m", "or", "and", "but", "same", "via", "rows", value + "x", value * 9])
+    return dice.choice([None, (), [], {}, True, 0, "rows", ("rows",), ("a",), ("a", "k"), ("same", "k"), [value], (value,)])
+
+
+def changed_dict(dice, value):
+    key = dice.choice(list(value))
+    made = dict(value)
+    way = dice.random()
+    if way < 0.75:
+        made[key] = changed(dice, value[key])
+    elif way < 0.85:
+        del made[key]
+    else:
+        made[dice.choice(["a", "b", "k", "l", "or", "", 1])] = made.pop(key)
+    return made
+
+
+def changed_sequence(dice, value):
+    at = dice.randrange(len(value))
+    made = list(value)
+    way = dice.random()
+    if way < 0.7:
+        made[at] = changed(dice, value[at])
+    elif way < 0.8:
+        del made[at]
+    elif way < 0.87:
+        made.insert(at, made[at])
+    elif way < 0.97:
+        made.reverse()
+    else:
+        return made if isinstance(value, tuple) else tuple(made)
+    return type(value)(made)

@@ -1,0 +1,169 @@
+"""Books and stores that several test files share: some written out, some made at random from a fixed seed."""
+
+import random
+import string
+
+from sharerules.books import Book, are_rules, find_ring
+from sharerules.store import Store
+
+ROWS = ("rows",)
+USER = (("user",),)
+
+# Groups in groups, folders in folders, and three levels.
+RULES = {
+    "user": {},
+    "group": {"member": ((("group", "member"), ("user",)), ROWS)},
+    "folder": {
+        "parent": ((("folder",),), None),
+        "viewer": ((("group", "member"), ("user",)), ("or", ROWS, ("via", "parent", "viewer"))),
+    },
+    "doc": {
+        "parent": ((("doc",), ("folder",)), None),
+        "owner": (USER, ROWS),
+        "editor": ((("group", "member"), ("user",)), ("or", ROWS, ("same", "owner"))),
+        "banned": ((("group", "member"), ("user",)), ROWS),
+        "viewer": (USER, ("but", ("or", ROWS, ("same", "editor"), ("via", "parent", "viewer")), "banned")),
+        "stranger": (USER, ("but", ROWS, "viewer")),
+        "both": (USER, ("and", ("same", "viewer"), ("same", "editor"), ROWS)),
+    },
+}
+TEXT = """kind doc
+relation banned allows group#member user = rows
+relation both allows user = ( viewer and editor and rows )
+relation editor allows group#member user = ( rows or owner )
+relation owner allows user = rows
+link parent allows doc folder
+relation stranger allows user = ( rows but not viewer )
+relation viewer allows user = ( ( rows or editor or viewer via parent ) but not banned )
+kind folder
+link parent allows folder
+relation viewer allows group#member user = ( rows or viewer via parent )
+kind group
+relation member allows group#member user = rows
+kind user"""
+
+# For each number of levels: a chain of relations, each of which refuses the one before.
+NAMES = list(string.ascii_lowercase)
+
+
+def thing(text):
+    return tuple(text.split(":"))
+
+
+def row(text):
+    """A row from words as "doc:a viewer group:b#member"."""
+    first, relation, last = text.split(" ")
+    kind, _, name = last.partition(":")
+    return (thing(first), relation, (kind, *name.split("#")))
+
+
+def rows(*texts):
+    return [row(text) for text in texts]
+
+
+def sample_store(*texts):
+    return Store(Book(RULES), rows=rows(*texts))
+
+
+def refusing_chain(many):
+    """Rules of one kind with so many relations: the last one has the level many - 1."""
+    made = {NAMES[0]: ((("k",),), ROWS)}
+    for at in range(1, many):
+        made[NAMES[at]] = ((("k",),), ("but", ROWS, NAMES[at - 1]))
+    return {"k": made}
+
+
+def nested_rule(depth, wrap=lambda rule: ("or", rule, ROWS)):
+    rule = ROWS
+    for _ in range(depth - 1):
+        rule = wrap(rule)
+    return rule
+
+
+def shuffled(dice, value):
+    """The same value with the keys of its dicts put in another sequence."""
+    if not isinstance(value, dict):
+        return value
+    pairs = list(value.items())
+    dice.shuffle(pairs)
+    return {key: shuffled(dice, item) for key, item in pairs}
+
+
+def random_rule(dice, known, depth, words):
+    """A rule; known has the relations for "same" and "but", and the pairs of a link and a relation for "via"."""
+    word = dice.choice(words)
+    if depth > 1 and word in ("or", "and"):
+        many = dice.randint(2, 3)
+        return (word, *[random_rule(dice, known, depth - 1, words) for _ in range(many)])
+    if depth > 1 and word == "but" and known["but"]:
+        return ("but", random_rule(dice, known, depth - 1, words), dice.choice(known["but"]))
+    if word == "via" and known["via"]:
+        return ("via", *dice.choice(known["via"]))
+    return ("same", dice.choice(known["same"])) if word == "same" else ROWS
+
+
+ALL_WORDS = ("rows", "rows", "rows", "same", "via", "or", "or", "and", "but", "but")
+STEADY_WORDS = ("rows", "rows", "same", "via", "or", "and")
+
+
+def random_rules(dice, *, words=ALL_WORDS, depth=3):
+    """Right rules, sound or not, of up to three kinds."""
+    kinds = NAMES[:dice.randint(1, 3)]
+    places = {kind: NAMES[10:10 + dice.randint(1, 4)] for kind in kinds}
+    links = {kind: {name: sorted((k,) for k in dice.sample(kinds, dice.randint(1, len(kinds))))
+                    for name in ["l", "m"][:dice.randint(0, 2)] if name not in places[kind]} for kind in kinds}
+    # Where nothing hangs on a greater name, nor refusingly on an equal one, rules are sound, of many levels.
+    layered = dice.random() < 0.5
+    made = {}
+    for kind in kinds:
+        made[kind] = {name: (tuple(allowed), None) for name, allowed in links[kind].items()}
+        for place in places[kind]:
+            pairs = [(name, one) for name, allowed in links[kind].items() for (k,) in allowed for one in places[k]]
+            groups = [(k, one) for k in kinds for one in places[k]]
+            known = {
+                "same": [one for one in places[kind] if one <= place or not layered],
+                "but": [one for one in places[kind] if one < place or not layered],
+                "via": [pair for pair in pairs if pair[1] <= place or not layered],
+            }
+            rule = random_rule(dice, known, depth, words)
+            groups = [group for group in groups if group[1] <= place or not layered]
+            made[kind][place] = (random_allowed(dice, kinds, groups) if "'rows'" in str(rule) else (), rule)
+    assert are_rules(made)
+    return shuffled(dice, made)
+
+
+def random_allowed(dice, kinds, groups):
+    some = [(kind,) for kind in dice.sample(kinds, dice.randint(1, len(kinds)))]
+    return tuple(sorted(some + dice.sample(groups, dice.randint(0, len(groups)))))
+
+
+def random_book(dice, **told):
+    """A book, made of sound rules."""
+    while True:
+        made = random_rules(dice, **told)
+        if find_ring(made) is None:
+            return Book(made)
+
+
+def right_rows(book, names):
+    """All rows that are right for a book with objects of these names."""
+    found = []
+    for kind in book.kinds:
+        for relation in book.relations(kind):
+            for item in book.allowed(kind, relation):
+                for first in names:
+                    for last in names:
+                        found.append(((kind, first), relation, (item[0], last, *item[1:])))
+    return found
+
+
+def random_store(dice, *, many=12, names=("x", "y", "z"), **told):
+    book = random_book(dice, **told)
+    all_rows = right_rows(book, names)
+    return Store(book, rows=dice.sample(all_rows, dice.randint(0, min(many, len(all_rows)))))
+
+
+def random_stores(seed, count, **told):
+    dice = random.Random(seed)
+    for _ in range(count):
+        yield random_store(dice, **told)
