@@ -50,7 +50,8 @@ def _is_right(rules, kind, relation):
     if rule is None:
         return has_kind and all([len(item) == 1 for item in allowed])
     inner = list(parts(rule))
-    if has_kind != (("rows",) in inner) or (allowed and not has_kind):
+    needed = ("rows",) in inner
+    if has_kind != needed or (len(allowed) > 0) != needed:
         return False
     return all([_is_part_right(rules, kind, part) for part in inner])
 
@@ -89,10 +90,10 @@ def _places_via(rules, kind, part):
 def _all_steps(rules):
     """For each place, ascending, its steps: (place on which it hangs, is refusing), ascending."""
     places = [(kind, relation) for kind in rules for relation in rules[kind] if _is_place(rules, kind, relation)]
-    return {(kind, relation): _steps(rules, kind, relation) for kind, relation in sorted(places)}
+    return {(kind, relation): _steps_of(rules, kind, relation) for kind, relation in sorted(places)}
 
 
-def _steps(rules, kind, relation):
+def _steps_of(rules, kind, relation):
     allowed, rule = rules[kind][relation]
     found = []
     for part in parts(rule):
@@ -143,7 +144,7 @@ def _ring_from(steps, first):
     return [first] + behind[::-1]
 
 
-def _levels(steps):
+def _levels_of(steps):
     """The level of each place of sound rules."""
     levels = {place: 0 for place in steps}
     changed = True
@@ -179,7 +180,7 @@ class Book:
             raise RefusingRing(ring)
         self._rules = _copy(rules)
         self._steps = _all_steps(rules)
-        self._levels = _levels(self._steps)
+        self._levels = _levels_of(self._steps)
 
     @property
     def rules(self):

@@ -90,7 +90,8 @@ class Store:
         _check_there(remove, self._there)
         _check_count(len(self._there) + len(add) - len(remove))
         gone = {row: True for row in remove}
-        self._keep([*[row for row in self._versions[-1] if row not in gone], *add])
+        kept = [row for row in self._versions[-1] if row not in gone]
+        self._keep(kept + list(add))
         return self.version
 
     def _check_version(self, value):

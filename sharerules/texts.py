@@ -26,7 +26,9 @@ def _relation_text(book, kind, relation):
 
 def store_text(store):
     """The text of a store."""
-    return "\n".join([book_text(store.book), "", *[row_text(row) for row in store.rows]])
+    lines = [book_text(store.book), ""]
+    lines.extend([row_text(row) for row in store.rows])
+    return "\n".join(lines)
 
 
 def read_book(text):

@@ -1,11 +1,13 @@
 """Answers and least heights ([2], [3], [7], [8], [9], [11], [13])."""
 
+import itertools
 import random
 import unittest
 
 from oracle import all_pairs, expected_heights, expected_stands
 from samples import (
-    NAMES, ROWS, STEADY_WORDS, USER, random_rules, random_stores, refusing_chain, row, rows, sample_store, shuffled, thing,
+    NAMES, ROWS, STEADY_WORDS, USER, random_rules, random_stores, refusing_chain, right_rows, row, rows, sample_store,
+    shuffled, thing,
 )
 from sharerules import grants
 from sharerules.books import Book, find_ring
@@ -174,6 +176,26 @@ class TestLevels(Case):
         self.assertEqual([height(store, ("k", "a"), r, person) for r in ("m", "no", "r", "s")], [26, None, 27, 28])
         self.assertEqual([height(store, ("k", "b"), r, person) for r in ("m", "no", "r", "s")], [25, 1, None, None])
 
+    def test_a_lower_reason_that_is_found_later(self):
+        def each(rules):
+            for first in itertools.permutations(rules["q"][1:]):
+                for last in itertools.permutations(rules["z"][1:]):
+                    yield {**rules, "q": ("and", *first), "z": ("or", *last)}
+
+        rules = {"q": ("and", ("same", "x"), ("same", "y"), ("same", "z")), "x": ROWS, "y": ("same", "x"),
+                 "z": ("or", ("same", "y"), ("same", "w")), "w": ROWS}
+        for names in itertools.permutations("qxyzw"):
+            other = dict(zip("qxyzw", names))
+            for told in each(rules):
+                turned = {other[name]: self.renamed_rule(rule, other) for name, rule in told.items()}
+                book = Book({"k": {name: ((("k",),) if rule == ROWS else (), rule) for name, rule in turned.items()}})
+                store = Store(book, rows=[(("k", "a"), other[name], ("k", "p")) for name in "xw"])
+                heights = [height(store, ("k", "a"), other[name], ("k", "p")) for name in "qxyzw"]
+                self.assertEqual(heights, [3, 1, 2, 2, 1])
+
+    def renamed_rule(self, rule, names):
+        return TestOtherNames.renamed_rule(self, rule, names)
+
     def test_a_hundred_rows(self):
         names = [first + last for first in NAMES[:10] for last in NAMES[:10]]
         for order in (names, names[::-1]):
@@ -227,6 +249,22 @@ class TestRandomStores(Case):
     def test_deep_rules_and_few_objects(self):
         for store in random_stores(13, 40, depth=5, names=("x", "y"), many=25):
             self.check(store)
+
+    def test_many_rows_of_the_sample(self):
+        dice = random.Random(17)
+        book = sample_store().book
+        every = [one for one in right_rows(book, NAMES[:7]) if one[2][0] != "user" or one[2][1] in "ab"]
+        # Few rows that end ways, and many that lengthen them.
+        ends = [one for one in every if one[2][0] == "user"]
+        steps = [one for one in every if one[2][0] != "user"]
+        most = 0
+        for _ in range(12):
+            store = Store(book, rows=dice.sample(ends, 12) + dice.sample(steps, 40))
+            for person in (("user", "a"), ("user", "b")):
+                expected = expected_heights(store, person)
+                self.assertEqual(all_heights(store, person), expected)
+                most = max([most, *expected.values()])
+        self.assertGreater(most, 5)
 
     def test_heights_of_all_sorts_occur(self):
         found = set()
