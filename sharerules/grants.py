@@ -3,11 +3,17 @@
 from sharerules.errors import BadQuestion
 from sharerules.names import is_object, target
 from sharerules.rules import parts
+from sharerules.steps import group_steps, link_steps
+
+
+def is_question(store, thing, relation, person):
+    """Whether three values are a question."""
+    return is_object(thing) and (thing[0], relation) in store.book and is_object(person)
 
 
 def check_question(store, thing, relation, person):
     """Raises BadQuestion with the tuple of the three values if it is not a question."""
-    if not is_object(thing) or (thing[0], relation) not in store.book or not is_object(person):
+    if not is_question(store, thing, relation, person):
         raise BadQuestion((thing, relation, person))
 
 
@@ -73,13 +79,11 @@ def _needs(store, pair):
     for part in parts(rule):
         word = part[0]
         if word == "rows":
-            groups = [subject for subject in store.rows_of(thing, relation) if len(subject) == 3]
-            needs.extend([(target(group), group[2]) for group in groups])
+            needs.extend([step[1] for step in group_steps(store, thing, relation)])
         elif word == "same":
             needs.append((thing, part[1]))
         elif word == "via":
-            linked = store.rows_of(thing, part[1])
-            needs.extend([(subject, part[2]) for subject in linked if (subject[0], part[2]) in store.book])
+            needs.extend([step[1] for step in link_steps(store, thing, part[1], part[2])])
         elif word == "but":
             needs.append((thing, part[2]))
     return needs
@@ -93,7 +97,7 @@ def _settle(store, person, users, pairs, found):
         woken = {}
         for pair in todo:
             rule = store.book.rule(pair[0][0], pair[1])
-            now = _rule_height(store, person, found, pair, rule)
+            now = rule_height(store, person, found, pair, rule)
             if now is not None and (pair not in found or now < found[pair]):
                 found[pair] = now
                 for user in users[pair]:
@@ -101,7 +105,7 @@ def _settle(store, person, users, pairs, found):
         todo = [pair for pair in pairs if pair in woken]
 
 
-def _rule_height(store, person, found, pair, rule):
+def rule_height(store, person, found, pair, rule):
     """The least height of a part for a rule of a pair by the heights found so far, or None."""
     thing, relation = pair
     word = rule[0]
@@ -113,8 +117,8 @@ def _rule_height(store, person, found, pair, rule):
         return _one_more([found.get((subject, rule[2])) for subject in store.rows_of(thing, rule[1])])
     if word == "but":
         refused = (thing, rule[2]) in found
-        return None if refused else _rule_height(store, person, found, pair, rule[1])
-    heights = [_rule_height(store, person, found, pair, part) for part in rule[1:]]
+        return None if refused else rule_height(store, person, found, pair, rule[1])
+    heights = [rule_height(store, person, found, pair, part) for part in rule[1:]]
     if word == "or":
         return _least(heights)
     return None if None in heights else max(heights)

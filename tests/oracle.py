@@ -149,12 +149,16 @@ def expected_ring(rules):
 
 
 def expected_level(rules, place):
-    """The greatest number of refusing steps in a walk of any length that matters."""
+    return expected_levels(rules)[place]
+
+
+def expected_levels(rules):
+    """For each place the greatest number of refusing steps in a walk of any length that matters."""
     table = {one: expected_hangs(rules, one) for one in places_of(rules)}
     most = {one: 0 for one in table}
     for _ in range(len(table) ** 2 + 1):
         most = {one: max([0, *[most[other] + refuses for other, refuses in table[one]]]) for one in table}
-    return most[place]
+    return most
 
 
 def all_pairs(store, more=()):
@@ -167,7 +171,7 @@ def expected_stands(store, person, more=()):
     """The pairs in which a person stands: the least sets, level by level ([8])."""
     rules = store.book.rules
     pairs = all_pairs(store, more)
-    by_place = {place: expected_level(rules, place) for place in places_of(rules)}
+    by_place = expected_levels(rules)
     levels = {(first, relation): by_place[first[0], relation] for first, relation in pairs}
     stands = set()
 

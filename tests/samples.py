@@ -167,3 +167,40 @@ def random_stores(seed, count, **told):
     dice = random.Random(seed)
     for _ in range(count):
         yield random_store(dice, **told)
+
+
+def mixed_store(dice, *, relations=6, objects=4, persons=2):
+    """A store of one kind with many levels, in which few persons stand here and there: papers within papers."""
+    made = {"l": ((("k",),), None)}
+    names = NAMES[:relations]
+    for at, name in enumerate(names):
+        lower, upto = names[:at], names[:at + 1]
+        known = {"same": lower or [name], "but": lower, "via": [("l", one) for one in upto]}
+        rule = random_rule(dice, known, 3, ("rows", "rows", "same", "via", "or", "or", "and", "but"))
+        if lower and dice.random() < 0.6:
+            rule = ("but", rule, dice.choice(lower))
+        groups = [("k", one) for one in dice.sample(upto, dice.randint(0, len(upto)))]
+        made[name] = (tuple(sorted([("u",), *groups])) if "'rows'" in str(rule) else (), rule)
+    book = Book({"k": made, "u": {}})
+    every = right_rows(book, NAMES[15:15 + objects])
+    tellings = [one for one in every if one[2][0] == "u" and one[2][1] in NAMES[15:15 + persons]]
+    steps = [one for one in every if one[2][0] == "k"]
+    return Store(book, rows=dice.sample(tellings, len(tellings) * 2 // 5) + dice.sample(steps, min(len(steps), 14)))
+
+
+def mixed_stores(seed, count, **told):
+    dice = random.Random(seed)
+    for _ in range(count):
+        yield mixed_store(dice, **told)
+
+
+def doubling_store(many):
+    """A store in which reasons and counter-reasons double with each of many steps: by "and" over two links to the next."""
+    book = Book({"k": {
+        "l": ((("k",),), None), "m": ((("k",),), None),
+        "r": ((("k",),), ("or", ROWS, ("and", ("via", "l", "r"), ("via", "m", "r")))),
+        "no": ((("k",),), ("but", ROWS, "r")),
+    }})
+    names = [first + last for first in NAMES[:10] for last in NAMES[:10]]
+    steps = [(("k", names[at]), link, ("k", names[at + 1])) for at in range(many) for link in "lm"]
+    return Store(book, rows=steps + [(("k", names[many]), "r", ("k", "p")), (("k", names[0]), "no", ("k", "p"))])

@@ -24,6 +24,9 @@ INTERFACE = {
     "books": ["are_rules", "find_ring", "Book"],
     "store": ["Store"],
     "grants": ["may", "height", "granted"],
+    "checks": ["is_reason", "is_counter", "reason_height", "reason_rows"],
+    "reasons": ["first_reason", "first_counter", "answer_with"],
+    "lists": ["objects_for", "persons_for", "critical", "effects"],
     "texts": ["book_text", "store_text", "read_book", "read_store"],
 }
 # The methods and properties that stand in the body of each class.
