@@ -152,8 +152,19 @@ def expected_level(rules, place):
     return expected_levels(rules)[place]
 
 
+LEVELS = {}
+
+
 def expected_levels(rules):
     """For each place the greatest number of refusing steps in a walk of any length that matters."""
+    # Levels take long, and are asked for again and again.
+    key = repr(rules)
+    if key not in LEVELS:
+        LEVELS[key] = work_out_levels(rules)
+    return LEVELS[key]
+
+
+def work_out_levels(rules):
     table = {one: expected_hangs(rules, one) for one in places_of(rules)}
     most = {one: 0 for one in table}
     for _ in range(len(table) ** 2 + 1):

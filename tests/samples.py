@@ -204,3 +204,82 @@ def doubling_store(many):
     names = [first + last for first in NAMES[:10] for last in NAMES[:10]]
     steps = [(("k", names[at]), link, ("k", names[at + 1])) for at in range(many) for link in "lm"]
     return Store(book, rows=steps + [(("k", names[many]), "r", ("k", "p")), (("k", names[0]), "no", ("k", "p"))])
+
+
+def plain_rule(dice, pieces):
+    """A plain rule of the pieces, which are put into "or" in one way or another."""
+    if len(pieces) == 1:
+        return pieces[0]
+    if len(pieces) > 2 and dice.random() < 0.5:
+        at = dice.randint(1, len(pieces) - 2)
+        return ("or", plain_rule(dice, pieces[:at]), ("or", *pieces[at:]))
+    return ("or", *pieces)
+
+
+def some_kinds(dice, kinds):
+    """What a link allows: some of the kinds."""
+    return tuple((kind,) for kind in sorted(dice.sample(kinds, dice.randint(1, len(kinds)))))
+
+
+def single_rules(dice):
+    """Rules of a plain and single book of up to two kinds."""
+    kinds = NAMES[:dice.randint(1, 2)]
+    names = NAMES[10:10 + dice.randint(2, 4)]
+    groups = [(kind, name) for kind in kinds for name in names]
+    made = {}
+    for kind in kinds:
+        links = {name: some_kinds(dice, kinds) for name in "xy"[:dice.randint(0, 2)]}
+        made[kind] = {name: (allowed, None) for name, allowed in links.items()}
+        users = {name: [] for name in names}
+        for link in links:
+            users[dice.choice(names)].append(("via", link, dice.choice(names)))
+        for name in names:
+            pieces = users[name] + [("same", one) for one in dice.sample(names, dice.randint(0, 2))]
+            told = not pieces or dice.random() < 0.7
+            dice.shuffle(pieces)
+            if told:
+                pieces.insert(dice.randint(0, len(pieces)), ROWS)
+            some = sorted([(one,) for one in kinds] + dice.sample(groups, dice.randint(0, len(groups))))
+            made[kind][name] = (tuple(some) if told else (), plain_rule(dice, pieces))
+    return made
+
+
+def single_stores(seed, count, *, many=24, names=("p", "q", "r")):
+    """Stores with plain and single books."""
+    dice = random.Random(seed)
+    for _ in range(count):
+        book = Book(single_rules(dice))
+        every = right_rows(book, names)
+        # Few persons and many steps, so that there are ways of all sorts.
+        steps = [one for one in every if len(one[2]) == 3 or book.rule(one[0][0], one[1]) is None]
+        ends = [one for one in every if one not in steps and one[2] == (book.kinds[0], names[0])]
+        steps = dice.sample(steps, min(len(steps), many))
+        yield Store(book, rows=steps + dice.sample(ends, min(len(ends), dice.randint(1, 4))))
+
+
+def alike_books(dice, *, kinds=2, relations=4, mixed=False):
+    """Two plain books that are alike; of mixed ones the second has the same pieces, put otherwise."""
+    kinds, names = NAMES[:kinds], NAMES[10:10 + relations]
+    groups = [(kind, name) for kind in kinds for name in names]
+    first, second = {}, {}
+    for kind in kinds:
+        links = {name: some_kinds(dice, kinds) for name in "xy"[:dice.randint(1, 2)]}
+        first[kind] = {name: (allowed, None) for name, allowed in links.items()}
+        second[kind] = dict(first[kind])
+        every = [("same", one) for one in names] + [("via", link, one) for link in links for one in names]
+        for name in names:
+            told = dice.random() < 0.5
+            pieces = dice.sample(every, dice.randint(0 if told else 1, 3)) + ([ROWS] if told else [])
+            others = list(pieces)
+            if not mixed and dice.random() < 0.4:
+                others = [piece for piece in others if piece == ROWS or dice.random() < 0.7]
+                others = others + dice.sample(every, dice.randint(0 if others else 1, 1))
+            elif dice.random() < 0.5:
+                others = others + dice.sample(others, 1)
+            dice.shuffle(pieces)
+            dice.shuffle(others)
+            some = dice.sample(groups, dice.randint(0, 2)) + [(dice.choice(kinds),)]
+            allowed = tuple(sorted(some)) if told else ()
+            first[kind][name] = (allowed, plain_rule(dice, pieces))
+            second[kind][name] = (allowed, plain_rule(dice, others))
+    return Book(first), Book(shuffled(dice, second))

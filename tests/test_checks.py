@@ -92,6 +92,9 @@ class TestReasons(Case):
                       ("group", step, list(inner)), ("group", inner[1], inner)):
             self.reason(store, "group:a member", wrong, False)
         self.reason(store, "group:a member", ("group", step, inner), False, ("user", "bob"))
+        # The row of this very object tells a person, and no group.
+        for wrong in (("group", inner[1], inner), ("group", inner[1], ("group", inner[1], inner)), ("group", inner[1], ())):
+            self.reason(store, "group:b member", wrong, False)
 
     def test_same_and_or(self):
         store = sample_store("doc:a owner user:ann", "doc:a editor user:ann", "doc:b owner user:ann")

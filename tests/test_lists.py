@@ -137,7 +137,7 @@ class TestCritical(unittest.TestCase):
             before = state(store)
             every = [(question, person) for question in all_pairs(store) for person in persons_in(store)]
             dice.shuffle(every)
-            hanging = [one for one in every if critical(store, *one[0], one[1]) and not may(store, *one[0], one[1])]
+            hanging = [one for one in every[5:60] if critical(store, *one[0], one[1]) and not may(store, *one[0], one[1])]
             for question, person in every[:5] + hanging[:5]:
                 found = critical(store, *question, person)
                 self.assertEqual(found, expected_critical(store, question, person))

@@ -4,13 +4,18 @@ import random
 import unittest
 
 from oracle import all_pairs
-from samples import STEADY_WORDS, mixed_stores, random_stores, right_rows
-from sharerules.checks import is_counter, is_reason, reason_height
+from papers import counters_in, rows_in
+from samples import STEADY_WORDS, alike_books, mixed_stores, random_stores, right_rows, single_stores
+from sharerules.books import Book
+from sharerules.checks import is_counter, is_reason, reason_height, reason_rows
+from sharerules.compare import equal_table, layers, parting_way
 from sharerules.grants import granted, height, may
 from sharerules.lists import critical, effects
+from sharerules.memory import Memory, guarded_write, is_guard
 from sharerules.reasons import answer_with, first_counter, first_reason
 from sharerules.store import Store
-from sharerules.texts import read_store, store_text
+from sharerules.texts import read_book, read_store, store_text
+from sharerules.ways import barrier, ground, is_cut, least_cut, separate_reasons
 
 
 def persons_in(store):
@@ -133,6 +138,128 @@ class TestEffects(unittest.TestCase):
             self.assertEqual(back, (together[1], together[0]))
             store.go_back(0)
             self.assertEqual(effects(store, add=add, remove=remove), together)
+
+
+class TestWhatStaysAsItIs(unittest.TestCase):
+    def used_and_looked_at(self, answer, paper):
+        """The rows that a paper uses, and the pairs that its counter-reasons refuse."""
+        used, looked = set(), set()
+        counters = counters_in(paper) if answer else [paper]
+        used |= rows_in(paper) if answer else set()
+        while counters:
+            refused, told = counters.pop()
+            looked |= set(refused)
+            for _, reason in told:
+                used |= rows_in(reason)
+                counters.extend(counters_in(reason))
+        return used, looked
+
+    def links_of(self, book, thing):
+        return [name for name in book.relations(thing[0]) if book.rule(thing[0], name) is None]
+
+    def test_what_it_does_not_hang_on_may_change(self):
+        dice = random.Random(81)
+        many = {True: 0, False: 0}
+        for store in [*stores(82), *mixed_stores(83, 30)]:
+            questions = questions_of(store)
+            for question in dice.sample(questions, min(8, len(questions))):
+                answer, paper = answer_with(store, *question)
+                used, looked = self.used_and_looked_at(answer, paper)
+                # Of the objects that are looked at, the rows of the relations themselves and of all links stay.
+                kept = looked | {(thing, link) for thing, _ in looked for link in self.links_of(store.book, thing)}
+                free = [one for one in right_rows(store.book, ("x", "y", "p", "q")) if one not in store and one[:2] not in kept]
+                gone = [one for one in store.rows if one not in used and one[:2] not in kept]
+                memory = Memory(store)
+                memory.ask(*question)
+                told = {"add": dice.sample(free, min(6, len(free))), "remove": dice.sample(gone, len(gone) * 2 // 3)}
+                guarded_write(store, [(*question, answer, paper)], **told)
+                self.assertIs((is_reason if answer else is_counter)(store, *question, paper), True)
+                self.assertEqual([memory.stands(*question), memory.ask(*question), memory.found], [True, answer, 1])
+                self.assertEqual(memory.known(*question), (answer, paper))
+                self.assertIs(is_guard(store, (*question, answer, paper)), True)
+                many[answer] += len(told["add"]) + len(told["remove"]) > 0
+                store.go_back(0)
+        self.assertTrue(min(many.values()) > 50, many)
+
+
+class TestCuts(unittest.TestCase):
+    def test_without_a_row(self):
+        found = 0
+        for store in single_stores(84, 40):
+            person = (store.book.kinds[0], "p")
+            for pair in all_pairs(store):
+                cut = least_cut(store, *pair, person)
+                found += len(cut) > 1
+                if len(cut) < 2 and found % 5:
+                    continue
+                scratch = store.at(0)
+                for one in store.rows:
+                    scratch.write(remove=[one])
+                    other = least_cut(scratch, *pair, person)
+                    if one in cut:
+                        self.assertEqual(len(other), len(cut) - 1)
+                    else:
+                        self.assertIn(len(other), (len(cut) - 1, len(cut)))
+                    self.assertEqual(len(separate_reasons(scratch, *pair, person)), len(other))
+                    scratch.write(add=[one])
+        self.assertGreater(found, 20)
+
+    def test_ground_and_barrier(self):
+        found = 0
+        for store in random_stores(85, 50, words=STEADY_WORDS, many=16):
+            for question in questions_of(store)[::3]:
+                if not may(store, *question):
+                    continue
+                found += 1
+                base, wall = ground(store, *question), barrier(store, *question)
+                alone = Store(store.book, rows=base)
+                self.assertEqual(reason_rows(first_reason(alone, *question)), base)
+                self.assertEqual(critical(alone, *question), base)
+                self.assertTrue(set(base) & set(wall))
+                self.assertTrue(set(reason_rows(first_reason(store, *question))) & set(wall))
+                self.assertIs(is_cut(store, *question, wall), True)
+                for one in wall:
+                    self.assertIs(is_cut(store, *question, [other for other in wall if other != one]), False)
+                self.assertTrue(set(critical(store, *question)) <= set(base))
+        self.assertGreater(found, 50)
+
+
+class TestBooks(unittest.TestCase):
+    def test_books_for_which_a_table_or_a_way_is_told(self):
+        dice = random.Random(86)
+        found = {True: 0, False: 0}
+        for at in range(60):
+            first, second = alike_books(dice, mixed=at % 2 == 0)
+            every = right_rows(first, ("x", "y", "z"))
+            given = [dice.sample(every, min(len(every), dice.randint(1, 25))) for _ in range(3)]
+            for place in first.places:
+                way = parting_way(first, second, place)
+                found[way is None] += 1
+                self.assertIs(equal_table(first, second, place) is None, way is not None)
+                if way is None:
+                    for some in given:
+                        self.check_equal(Store(first, rows=some), Store(second, rows=some), place)
+                else:
+                    answers = [may(Store(book, rows=way), way[0][0], place[1], way[-1][2]) for book in (first, second)]
+                    self.assertEqual(sorted(answers), [False, True])
+                    self.assertEqual(len(layers(first, second, place)), len(way))
+        self.assertTrue(min(found.values()) > 30, found)
+
+    def check_equal(self, one, two, place):
+        for person in persons_in(one):
+            for name in "xyz":
+                question = ((place[0], name), place[1], person)
+                self.assertIs(may(one, *question), may(two, *question))
+
+    def test_a_book_that_is_read_is_equal_for_all_places(self):
+        dice = random.Random(87)
+        for _ in range(30):
+            first, second = alike_books(dice)
+            other = read_book(store_text(Store(first)).rstrip())
+            self.assertEqual(other, first)
+            for place in first.places:
+                self.assertIs(parting_way(first, other, place), None)
+                self.assertEqual(equal_table(second, Book(second.rules), place), equal_table(second, second, place))
 
 
 if __name__ == "__main__":
